@@ -1,0 +1,1 @@
+"""JSON taken byte by byte, as states."""
