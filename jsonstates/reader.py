@@ -34,12 +34,17 @@ CALL_CLEAR = 1
 CALL_TAKE = 2
 CALL_RUN = 3
 CALL_OF = 4
+CALL_TABLE = 5
+CALL_ENDS = 6
+CALL_DEPTH = 7
+CALL_SEEN = 8
 
 REFUSED = -1
 MOST_NESTED = 1000
 MOST_BYTES = 65536
 HIGHEST_BYTE = 255
 HEX_DIGITS = 4
+COUNTS_TOLD = 4294967296
 
 SPACES = (32, 9, 10, 13)
 
@@ -323,12 +328,32 @@ def state_of(k):
     return k if VALUE <= k <= BAD else REFUSED
 
 
+def table():
+    return [0] + list(range(VALUE, BAD + 1))
+
+
+def ends(reader):
+    if len(reader.nested) > 0:
+        return 0
+    return 1 if reader.state in (AFTER, ZERO, WHOLE, FRACTION, EXPONENT) else 0
+
+
+def depth(reader):
+    return len(reader.nested)
+
+
+def seen(reader, kind):
+    if kind < 0 or kind >= KINDS:
+        return REFUSED
+    return reader.counts[kind] % COUNTS_TOLD
+
+
 def call_length(calls, at):
     if calls[at] == CALL_TAKE:
         return 3
     if calls[at] == CALL_RUN:
         return 2 + calls[at + 1]
-    if calls[at] == CALL_OF:
+    if calls[at] in (CALL_OF, CALL_SEEN):
         return 2
     return 1
 
@@ -341,7 +366,15 @@ def answer(reader, call):
         return [take(reader, call[2])]
     if call[0] == CALL_RUN:
         return [run(reader, call[2:])]
-    return [state_of(call[1])]
+    if call[0] == CALL_OF:
+        return [state_of(call[1])]
+    if call[0] == CALL_TABLE:
+        return table()
+    if call[0] == CALL_ENDS:
+        return [ends(reader)]
+    if call[0] == CALL_DEPTH:
+        return [depth(reader)]
+    return [seen(reader, call[1])]
 
 
 def answers(calls):

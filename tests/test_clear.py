@@ -2,11 +2,9 @@
 
 import unittest
 
-from jsonstates.reader import Reader, answers
-from jsonstates.reader import clear as clear_reader
-from jsonstates.reader import run as run_reader
+from jsonstates.reader import answers
 
-from tests.helper import CLEAR, STATE, numbers_of, run, take
+from tests.helper import CLEAR, DEPTH, NONE_COUNTED, SEEN_ALL, STATE, numbers_of, run, take
 
 UNDER_WAY = (
     b"", b" ", b"[", b"{", b"[[{", b'{"a"', b'{"a":', b'{"a":1,', b"[1", b"[1,", b"[ ", b"-", b"0", b"12", b"1.",
@@ -42,13 +40,11 @@ class Clear(unittest.TestCase):
         told = numbers_of(CLEAR + run(b"[" * 1000) + CLEAR + run(b"[" * 1000) + take(STATE["first"], ord("[")))
         self.assertEqual(told, [0, STATE["first"], 0, STATE["first"], STATE["bad"]])
 
-    def test_nothing_is_counted_afterwards(self):
-        reader = Reader()
-        run_reader(reader, list(b'[null,true,false,1,"s",[],{"k":{}}]'))
-        self.assertEqual(reader.counts, [1, 1, 1, 1, 1, 2, 2, 1])
-        self.assertEqual(clear_reader(reader), STATE["value"])
-        self.assertEqual(reader.counts, [0] * 8)
-        self.assertEqual(reader.nested, [])
+    def test_nothing_is_open_and_nothing_counted_afterwards(self):
+        self.assertEqual(numbers_of(CLEAR + DEPTH + SEEN_ALL), [0, 0] + NONE_COUNTED)
+        for data in UNDER_WAY + (b'[null,true,false,1,"s",[],{"k":{}}]', b'[null,true,false,1,"s",[],{"k":{},"l":2'):
+            with self.subTest(data=data[:20]):
+                self.assertEqual(numbers_of(CLEAR + run(data) + CLEAR + DEPTH + SEEN_ALL)[2:], [0, 0] + NONE_COUNTED)
 
 
 if __name__ == "__main__":

@@ -8,7 +8,7 @@ from jsonstates.reader import Reader
 from jsonstates.reader import run as run_reader
 
 from tests.helper import (
-    CLEAR, INT_HIGHEST, INT_LOWEST, STATE, behind, is_whole, numbers_of, run, states_by_takes, take,
+    CLEAR, INT_HIGHEST, INT_LOWEST, STATE, behind, ends_behind, is_whole, numbers_of, run, states_by_takes, take,
 )
 
 TEXTS = (
@@ -108,8 +108,9 @@ class AgainstJson(unittest.TestCase):
         for length in range(longest + 1):
             for chosen in itertools.product(signs, repeat=length):
                 data = b"".join(chosen)
-                if is_whole(data) != is_json(data):
-                    self.fail(f"{data!r}: json says {is_json(data)}")
+                wanted = is_json(data)
+                if is_whole(data) != wanted or ends_behind(data) != (1 if wanted else 0):
+                    self.fail(f"{data!r}: json says {wanted}")
 
     def test_numbers(self):
         self.check_all((b"-", b"+", b"0", b"7", b".", b"e", b"E", b" "), 5)

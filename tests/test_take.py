@@ -173,34 +173,6 @@ class KeysAndStrings(unittest.TestCase):
         )
 
 
-class WhatIsCounted(unittest.TestCase):
-    def counts(self, data):
-        reader = Reader()
-        run_reader(reader, list(data))
-        return reader.counts
-
-    def test_values_that_have_ended(self):
-        self.assertEqual(self.counts(b"null"), [1, 0, 0, 0, 0, 0, 0, 0])
-        self.assertEqual(self.counts(b"false"), [0, 1, 0, 0, 0, 0, 0, 0])
-        self.assertEqual(self.counts(b"true"), [0, 0, 1, 0, 0, 0, 0, 0])
-        self.assertEqual(self.counts(b'"s"'), [0, 0, 0, 0, 1, 0, 0, 0])
-        self.assertEqual(self.counts(b"[[],[1"), [0, 0, 0, 0, 0, 1, 0, 0])
-        self.assertEqual(self.counts(b'{"k":{}'), [0, 0, 0, 0, 0, 0, 1, 1])
-        self.assertEqual(self.counts(b'{"k":"s","l":2}'), [0, 0, 0, 1, 1, 0, 1, 2])
-
-    def test_a_number_is_counted_by_the_byte_behind_it(self):
-        for number in (b"0", b"-10", b"0.5", b"1e9"):
-            self.assertEqual(self.counts(number), [0] * 8)
-            for ending in (b" ", b",", b"x"):
-                self.assertEqual(self.counts(number + ending), [0, 0, 0, 1, 0, 0, 0, 0])
-            self.assertEqual(self.counts(b"[" + number + b"]"), [0, 0, 0, 1, 0, 1, 0, 0])
-
-    def test_what_has_not_ended_is_not_counted(self):
-        for data in (b"-", b"1.", b"1e", b"1e+", b"-x", b"1.x", b"nul", b"nulx", b'"a', b'"a\n', b"[", b"{", b'{"k'):
-            with self.subTest(data=data):
-                self.assertEqual(self.counts(data), [0] * 8)
-
-
 class Refusals(unittest.TestCase):
     WRONG = (-1, 256, -2, 257, 300, 65536 + 48, -256, INT_LOWEST, INT_HIGHEST)
 
@@ -271,11 +243,6 @@ class TheBound(unittest.TestCase):
         self.assertEqual(behind(b"[" * 1000 + b"],[["), STATE["bad"])
         self.assertEqual(behind(b"[" * 999 + b"{},{"), STATE["member"])
         self.assertTrue(is_whole(b"[" + b"[]," * 2000 + b"{}]"))
-
-    def test_what_would_be_one_too_many_is_not_kept(self):
-        reader = Reader()
-        run_reader(reader, list(b"[" * 1001))
-        self.assertEqual(len(reader.nested), 1000)
 
 
 if __name__ == "__main__":
